@@ -1,0 +1,50 @@
+// Package announce: one object for many threads, in which whoever comes does what all have announced: see DOC.md.
+package announce
+
+import (
+	"announce/api"
+	"announce/engine"
+	"announce/plain"
+)
+
+// Object is an object and its threads.
+type Object struct{ calls }
+
+// calls is what every engine offers. The engines differ by the type of their state, so Object embeds what they have in common.
+type calls interface {
+	// Begin begins an operation (P5).
+	Begin(thread int, op api.Op) api.Errno
+	// Step lets a thread go on by one step (P6).
+	Step(thread int) (int, api.Errno)
+	// Answer tells the answer of a thread's last operation (P5).
+	Answer(thread int) (api.Answer, api.Errno)
+	// Do begins an operation and goes on till it has ended (P5).
+	Do(thread int, op api.Op) (api.Answer, api.Errno)
+	// Order tells in which order operations have taken effect (P8).
+	Order() []api.Mark
+	// State tells what the object holds (P8).
+	State() []int
+	// Bound tells how many steps an operation takes at most (P9).
+	Bound() int
+}
+
+// New makes an object (P3).
+func New(c api.Config) (*Object, api.Errno) {
+	if err := checkConfig(c); err != api.OK {
+		return nil, err
+	}
+	switch c.Kind {
+	case api.Counter:
+		return &Object{engine.New(plain.Counter{}, c.Threads, c.Cap)}, api.OK
+	}
+	// The other kinds are not built yet.
+	return nil, api.OK
+}
+
+// Play lets threads run as goroutines, one step at a time (P10).
+func Play(c api.Config, programs [][]api.Op, picks []int) (api.Tale, api.Errno) {
+	return api.Tale{}, api.OK
+}
+
+// Race lets threads run as goroutines, as they like, on one counter (P11).
+func Race(programs [][]int) (int, api.Errno) { return 0, api.OK }

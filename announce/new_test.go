@@ -1,0 +1,61 @@
+package announce_test
+
+import (
+	"math"
+	"testing"
+
+	"announce/announce"
+	"announce/api"
+)
+
+// P3: settings at the edges, and beyond them.
+func TestNewConfig(t *testing.T) {
+	for _, c := range []api.Config{
+		counter(1, 0), counter(api.MaxThreads, 0), counter(1, api.MaxCap), counter(api.MaxThreads, api.MaxCap),
+	} {
+		tells(t, fresh(t, c), 0)
+	}
+	for _, c := range []api.Config{
+		{},
+		{Kind: 0, Threads: 1}, {Kind: -1, Threads: 1}, {Kind: api.Table + 1, Threads: 1}, {Kind: math.MaxInt, Threads: 1}, {Kind: math.MinInt, Threads: 1},
+		counter(0, 0), counter(-1, 0), counter(api.MaxThreads+1, 0), counter(math.MaxInt, 0), counter(math.MinInt, 0),
+		counter(1, -1), counter(1, api.MaxCap+1), counter(1, math.MaxInt), counter(1, math.MinInt),
+		{Kind: api.Stack, Threads: 0}, {Kind: api.Queue, Threads: 1, Cap: -1}, {Kind: api.Map, Threads: 65},
+		{Kind: api.Table, Threads: 0}, {Kind: api.Table, Threads: 1, Cap: 65}, // no table either: but this is named first
+	} {
+		if o, err := announce.New(c); o != nil || err != api.ErrConfig {
+			t.Errorf("P1, P3: New(%+v) = %v, %d, want ErrConfig", c, o, err)
+		}
+	}
+}
+
+// P3: tables that are none.
+func TestNewTable(t *testing.T) {
+	for _, a := range []api.Automaton{
+		{},
+		{States: 0, Codes: 1}, {States: -1, Codes: -1, Next: []int{0}, Out: []int{0}},
+		{States: 1, Codes: 0}, {States: 1, Codes: -1},
+		{States: api.MaxStates + 1, Codes: 1, Next: make([]int, api.MaxStates+1), Out: make([]int, api.MaxStates+1)},
+		{States: 1, Codes: api.MaxCodes + 1, Next: make([]int, api.MaxCodes+1), Out: make([]int, api.MaxCodes+1)},
+		{States: math.MaxInt, Codes: math.MaxInt, Next: []int{0}, Out: []int{0}}, // the product wraps round to 1
+		{States: math.MinInt, Codes: 2},
+		{States: 2, Codes: 1, Next: []int{0}, Out: []int{0, 0}}, {States: 2, Codes: 1, Next: []int{0, 0, 0}, Out: []int{0, 0}},
+		{States: 2, Codes: 1, Next: []int{0, 0}, Out: []int{0}}, {States: 2, Codes: 1, Next: []int{0, 0}, Out: []int{0, 0, 0}},
+		{States: 2, Codes: 1, Next: nil, Out: []int{0, 0}}, {States: 2, Codes: 1, Next: []int{0, 0}},
+		{States: 2, Codes: 1, Next: []int{0, 2}, Out: []int{0, 0}}, {States: 2, Codes: 1, Next: []int{-1, 0}, Out: []int{0, 0}},
+	} {
+		if o, err := announce.New(api.Config{Kind: api.Table, Threads: 1, Automaton: a}); o != nil || err != api.ErrTable {
+			t.Errorf("P1, P3: New with the automaton %+v = %v, %d, want ErrTable", a, o, err)
+		}
+		fresh(t, api.Config{Kind: api.Counter, Threads: 1, Automaton: a}) // a counter's is not looked at
+	}
+	for _, a := range []api.Automaton{
+		{States: 1, Codes: 1, Next: []int{0}, Out: []int{math.MinInt}},
+		{States: 2, Codes: 2, Next: []int{1, 0, 0, 1}, Out: []int{7, 8, 9, 10}},
+		{States: api.MaxStates, Codes: api.MaxCodes, Next: make([]int, api.MaxStates*api.MaxCodes), Out: make([]int, api.MaxStates*api.MaxCodes)},
+	} {
+		if _, err := announce.New(api.Config{Kind: api.Table, Threads: 1, Automaton: a}); err != api.OK {
+			t.Errorf("P3: New with the automaton %+v: %d", a, err)
+		}
+	}
+}
