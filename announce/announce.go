@@ -35,10 +35,19 @@ func New(c api.Config) (*Object, api.Errno) {
 	}
 	switch c.Kind {
 	case api.Counter:
-		return &Object{engine.New(plain.Counter{}, c.Threads, c.Cap)}, api.OK
+		return objectOf(plain.Counter{}, c), api.OK
+	case api.Stack:
+		return objectOf(plain.Stack{}, c), api.OK
+	case api.Queue:
+		return objectOf(plain.Queue{}, c), api.OK
 	}
 	// The other kinds are not built yet.
 	return nil, api.OK
+}
+
+// objectOf gives a plain object the threads that the settings ask for.
+func objectOf[S any](object engine.Plain[S], c api.Config) *Object {
+	return &Object{engine.New(object, c.Threads, c.Cap)}
 }
 
 // Play lets threads run as goroutines, one step at a time (P10).

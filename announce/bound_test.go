@@ -12,22 +12,28 @@ func TestBound(t *testing.T) {
 	for _, c := range []struct{ threads, most, bound int }{
 		{1, 0, 37}, {2, 0, 51}, {2, 3, 57}, {16, 0, 247}, {17, 5, 277}, {64, 0, 937}, {64, 64, 1065},
 	} {
-		if n := fresh(t, counter(c.threads, c.most)).Bound(); n != c.bound {
-			t.Errorf("P9: %d threads, Cap %d: Bound = %d, want %d", c.threads, c.most, n, c.bound)
+		for _, kind := range kinds {
+			o := fresh(t, api.Config{Kind: kind, Threads: c.threads, Cap: c.most})
+			o.Do(0, add(1)) // what the object holds is one part of a record, however much it is
+			if n := o.Bound(); n != c.bound {
+				t.Errorf("P9: kind %d, %d threads, Cap %d: Bound = %d, want %d", kind, c.threads, c.most, n, c.bound)
+			}
 		}
 	}
 }
 
 // P9: an operation can take as many steps as the bound says: both attempts fail at publishing, with all threads pending and the backoff at Cap.
 func TestBoundIsReached(t *testing.T) {
-	for _, most := range []int{0, 1, 3, 7, 15} {
-		o := fresh(t, counter(2, most))
-		for range 3 {
-			backoff := min(most, sparedWait(t, o))
-			overtakeTwice(t, o, [2]int{backoff, min(2*backoff+1, most)}, true)
-		}
-		if n := overtakeTwice(t, o, [2]int{most, most}, true); n != o.Bound() {
-			t.Errorf("P9: Cap %d: the operation took %d steps, Bound = %d", most, n, o.Bound())
+	for _, kind := range kinds {
+		for _, most := range []int{0, 1, 3, 7, 15} {
+			o := fresh(t, api.Config{Kind: kind, Threads: 2, Cap: most})
+			for range 3 {
+				backoff := min(most, sparedWait(t, o))
+				overtakeTwice(t, o, [2]int{backoff, min(2*backoff+1, most)}, true)
+			}
+			if n := overtakeTwice(t, o, [2]int{most, most}, true); n != o.Bound() {
+				t.Errorf("P9: kind %d, Cap %d: the operation took %d steps, Bound = %d", kind, most, n, o.Bound())
+			}
 		}
 	}
 }
@@ -35,9 +41,9 @@ func TestBoundIsReached(t *testing.T) {
 // sparedWait tells the backoff of thread 0, by an operation that leaves it as it is.
 func sparedWait(t *testing.T, o *announce.Object) int {
 	t.Helper()
-	begins(t, o, 0, api.Op{Code: api.Sum})
+	begins(t, o, 0, api.Op{})
 	moves(t, o, 0, 4)
-	o.Do(1, api.Op{Code: api.Sum})
+	o.Do(1, api.Op{})
 	steps := 1
 	for how, _ := o.Step(0); how == api.Moved; how, _ = o.Step(0) {
 		steps++
@@ -47,26 +53,33 @@ func sparedWait(t *testing.T, o *announce.Object) int {
 
 // P9: others may stop wherever they are: an operation ends all the same, and within the bound.
 func TestOthersStop(t *testing.T) {
-	for first := range 30 {
-		for second := range 30 {
-			o := fresh(t, counter(3, 2))
-			goOn(o, 1, first)
-			goOn(o, 2, second)
-			for k := range 3 {
-				begins(t, o, 0, add(1))
-				steps := 1
-				for how, _ := o.Step(0); how == api.Moved && steps <= o.Bound(); how, _ = o.Step(0) {
-					steps++
-				}
-				if steps > o.Bound() {
-					t.Fatalf("P9: the others stopped behind %d and %d steps: operation %d takes more than %d", first, second, k, o.Bound())
-				}
-			}
-			marks := o.Order()
-			if first >= 4 && !containsThread(marks, 1) || second >= 4 && !containsThread(marks, 2) {
-				t.Fatalf("P12: the others stopped behind %d and %d steps: the order is %v", first, second, marks)
+	for _, kind := range kinds {
+		for first := range 30 {
+			for second := range 30 {
+				othersStop(t, kind, first, second)
 			}
 		}
+	}
+}
+
+func othersStop(t *testing.T, kind, first, second int) {
+	t.Helper()
+	o := fresh(t, api.Config{Kind: kind, Threads: 3, Cap: 2})
+	goOn(o, 1, first)
+	goOn(o, 2, second)
+	for k := range 3 {
+		begins(t, o, 0, add(1))
+		steps := 1
+		for how, _ := o.Step(0); how == api.Moved && steps <= o.Bound(); how, _ = o.Step(0) {
+			steps++
+		}
+		if steps > o.Bound() {
+			t.Fatalf("P9: kind %d: the others stopped behind %d and %d steps: operation %d takes more than %d", kind, first, second, k, o.Bound())
+		}
+	}
+	marks := o.Order()
+	if first >= 4 && !containsThread(marks, 1) || second >= 4 && !containsThread(marks, 2) {
+		t.Fatalf("P12: kind %d: the others stopped behind %d and %d steps: the order is %v", kind, first, second, marks)
 	}
 }
 

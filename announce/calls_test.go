@@ -43,21 +43,31 @@ func refused(t *testing.T, o *announce.Object, thread int, begin, step, answer, 
 
 // P1, P5: threads that are none.
 func TestNoThread(t *testing.T) {
-	for _, n := range []int{1, 16, 17, api.MaxThreads} {
-		o := fresh(t, counter(n, 0))
-		for _, thread := range []int{-1, n, n + 1, math.MaxInt, math.MinInt} {
-			refused(t, o, thread, api.ErrThread, api.ErrThread, api.ErrThread, api.ErrThread)
+	for _, kind := range kinds {
+		for _, n := range []int{1, 16, 17, api.MaxThreads} {
+			o := fresh(t, api.Config{Kind: kind, Threads: n})
+			for _, thread := range []int{-1, n, n + 1, math.MaxInt, math.MinInt} {
+				refused(t, o, thread, api.ErrThread, api.ErrThread, api.ErrThread, api.ErrThread)
+			}
+			holds(t, o, firstly(kind)...)
+			ordered(t, o)
+			does(t, o, n-1, add(1), done(1))
+			refused(t, o, n, api.ErrThread, api.ErrThread, api.ErrThread, api.ErrThread)
+			tells(t, o, 1, mark(1, n-1, 0))
 		}
-		tells(t, o, 0)
-		does(t, o, n-1, add(1), done(1))
-		refused(t, o, n, api.ErrThread, api.ErrThread, api.ErrThread, api.ErrThread)
-		tells(t, o, 1, mark(1, n-1, 0))
 	}
 }
 
 // P1, P5: calls that come at the wrong time, behind every step; none of them changes anything.
 func TestWrongTime(t *testing.T) {
-	o := fresh(t, counter(2, 0))
+	for _, kind := range kinds {
+		wrongTime(t, kind)
+	}
+}
+
+func wrongTime(t *testing.T, kind int) {
+	t.Helper()
+	o := fresh(t, api.Config{Kind: kind, Threads: 2})
 	idle := func(answer api.Errno) {
 		t.Helper()
 		if how, err := o.Step(0); how != 0 || err != api.ErrIdle {
@@ -76,29 +86,43 @@ func TestWrongTime(t *testing.T) {
 		}
 	}
 	idle(api.ErrIdle)
-	for round := 1; round <= 3; round++ {
-		begins(t, o, 0, add(5))
+	state, want := firstly(kind), api.Answer{}
+	for _, op := range []api.Op{{Code: 2}, add(5), {Code: 7, A: 1}} {
+		state, want = plainly(kind, state, op)
+		begins(t, o, 0, op)
 		for range 25 {
 			busy()
 			moves(t, o, 0, 1)
 		}
 		busy()
-		ends(t, o, 0, 1, done(5*round))
+		ends(t, o, 0, 1, want)
 		idle(api.OK)
-		answers(t, o, 0, done(5*round))
+		answers(t, o, 0, want)
 	}
 	if _, err := o.Answer(1); err != api.ErrIdle {
 		t.Errorf("P5: Answer of the other thread, which did nothing = %d", err)
 	}
-	tells(t, o, 15, mark(1, 0, 0), mark(2, 0, 1), mark(3, 0, 2))
+	holds(t, o, state...)
+	ordered(t, o, mark(1, 0, 0), mark(2, 0, 1), mark(3, 0, 2))
 }
 
 // P2: what comes out may be written into, up to its spare room, and nothing is seen of it elsewhere.
 func TestListsAreNew(t *testing.T) {
-	o := fresh(t, counter(2, 0))
-	begins(t, o, 1, add(10))
-	moves(t, o, 1, 4)
-	does(t, o, 0, add(1), done(1))
+	listsAreNew(t, api.Counter, []int{111}, []int{112})
+	listsAreNew(t, api.Stack, []int{100, 10, 1}, []int{1, 100, 10, 1})
+	listsAreNew(t, api.Queue, []int{1, 10, 100}, []int{1, 10, 100, 1})
+}
+
+// listsAreNew: first and second are what the object holds behind its first and its second batch.
+func listsAreNew(t *testing.T, kind int, first, second []int) {
+	t.Helper()
+	o := fresh(t, api.Config{Kind: kind, Threads: 3})
+	for thread, a := range []int{1, 10, 100} {
+		begins(t, o, thread, add(a))
+		moves(t, o, thread, 4)
+	}
+	finish(o, 0)
+	order := []api.Mark{mark(1, 0, 0), mark(1, 1, 0), mark(1, 2, 0)}
 	marks, state := o.Order(), o.State()
 	others, also := o.Order(), o.State()
 	for i := range marks[:cap(marks)] {
@@ -107,12 +131,14 @@ func TestListsAreNew(t *testing.T) {
 	for i := range state[:cap(state)] {
 		state[:cap(state)][i] = 77
 	}
-	if !slices.Equal(others, []api.Mark{mark(1, 0, 0), mark(1, 1, 0)}) || !slices.Equal(also, []int{11}) {
-		t.Errorf("P2: the other answers have become %v, %v", others, also)
+	if !slices.Equal(others, order) || !slices.Equal(also, first) {
+		t.Errorf("P2: kind %d: the other answers have become %v, %v", kind, others, also)
 	}
-	tells(t, o, 11, mark(1, 0, 0), mark(1, 1, 0))
-	does(t, o, 0, add(1), done(12))
-	tells(t, o, 12, mark(1, 0, 0), mark(1, 1, 0), mark(2, 0, 1))
+	holds(t, o, first...)
+	ordered(t, o, order...)
+	o.Do(0, add(1))
+	holds(t, o, second...)
+	ordered(t, o, append(order, mark(2, 0, 1))...)
 }
 
 // P2: what is handed in stays as it is.
@@ -131,13 +157,24 @@ func TestHandedIn(t *testing.T) {
 
 // P2: objects know nothing of one another.
 func TestObjectsApart(t *testing.T) {
-	one, other := fresh(t, counter(2, 3)), fresh(t, counter(2, 3))
+	for _, kind := range kinds {
+		objectsApart(t, api.Config{Kind: kind, Threads: 2, Cap: 3})
+	}
+}
+
+func objectsApart(t *testing.T, c api.Config) {
+	t.Helper()
+	one, other := fresh(t, c), fresh(t, c)
 	begins(t, one, 0, add(1))
 	moves(t, one, 0, 4)
-	does(t, other, 1, add(10), done(10))
-	does(t, other, 0, add(10), done(20))
-	tells(t, one, 0)
+	first, _ := plainly(c.Kind, firstly(c.Kind), add(10))
+	both, want := plainly(c.Kind, first, add(10))
+	other.Do(1, add(10))
+	does(t, other, 0, add(10), want)
+	holds(t, one, firstly(c.Kind)...)
+	ordered(t, one)
 	ends(t, one, 0, 22, done(1))
 	tells(t, one, 1, mark(1, 0, 0))
-	tells(t, other, 20, mark(1, 1, 0), mark(2, 0, 0))
+	holds(t, other, both...)
+	ordered(t, other, mark(1, 1, 0), mark(2, 0, 0))
 }

@@ -21,6 +21,7 @@ func fresh(t *testing.T, c api.Config) *announce.Object {
 	return o
 }
 
+// add lays A on a stack and into a queue too: Add, Push and Put have the same code.
 func add(a int) api.Op { return api.Op{Code: api.Add, A: a} }
 
 func done(value int) api.Answer { return api.Answer{Status: api.Done, Value: value} }
@@ -66,14 +67,44 @@ func does(t *testing.T, o *announce.Object, thread int, op api.Op, want api.Answ
 	}
 }
 
+// tells: of a counter.
 func tells(t *testing.T, o *announce.Object, sum int, marks ...api.Mark) {
 	t.Helper()
-	if l := o.State(); !slices.Equal(l, []int{sum}) {
-		t.Fatalf("P8: State = %v, want %d", l, sum)
+	holds(t, o, sum)
+	ordered(t, o, marks...)
+}
+
+func holds(t *testing.T, o *announce.Object, values ...int) {
+	t.Helper()
+	if l := o.State(); !slices.Equal(l, values) {
+		t.Fatalf("P8: State = %v, want %v", l, values)
 	}
+}
+
+func ordered(t *testing.T, o *announce.Object, marks ...api.Mark) {
+	t.Helper()
 	if l := o.Order(); !slices.Equal(l, marks) {
 		t.Fatalf("P8: Order = %v, want %v", l, marks)
 	}
+}
+
+// replays: each operation, in the order that is told, answers what the plain object answers; and all of them lead to the state.
+func replays(t *testing.T, o *announce.Object, kind int, ops [][]api.Op, told [][]api.Answer) {
+	t.Helper()
+	state, want, counts := firstly(kind), api.Answer{}, make([]int, len(ops))
+	for _, m := range o.Order() {
+		state, want = plainly(kind, state, ops[m.Thread][m.Seq])
+		if m.Seq != counts[m.Thread] || told[m.Thread][m.Seq] != want {
+			t.Fatalf("P12: kind %d: %+v answered %+v, want %+v", kind, m, told[m.Thread][m.Seq], want)
+		}
+		counts[m.Thread]++
+	}
+	for thread, n := range counts {
+		if n != len(ops[thread]) {
+			t.Fatalf("P12: kind %d: %d operations of thread %d, want %d", kind, n, thread, len(ops[thread]))
+		}
+	}
+	holds(t, o, state...)
 }
 
 func mark(batch, thread, seq int) api.Mark {

@@ -18,57 +18,59 @@ func finish(o *announce.Object, thread int) {
 
 // P12: two operations, with three changes of turn, wherever they fall: both are done once, in the order that is told.
 func TestTurns(t *testing.T) {
-	for first := range 28 {
-		for second := range 40 {
-			for third := range 40 {
-				o := fresh(t, counter(2, 1))
-				o.Begin(0, add(1))
-				o.Begin(1, add(10))
-				for _, turn := range [][2]int{{0, first}, {1, second}, {0, third}} {
-					for range turn[1] {
-						o.Step(turn[0])
+	for _, kind := range kinds {
+		for _, ops := range [][][]api.Op{{{add(1)}, {add(10)}}, {{add(1)}, {{Code: 2}}}, {{{Code: 2}}, {add(10)}}} {
+			for first := range 28 {
+				for second := range 40 {
+					for third := range 40 {
+						takeTurns(t, kind, ops, [][2]int{{0, first}, {1, second}, {0, third}})
 					}
-				}
-				finish(o, 1)
-				finish(o, 0)
-				marks := o.Order()
-				if len(marks) != 2 || marks[0].Thread == marks[1].Thread || !slices.Equal(o.State(), []int{11}) {
-					t.Fatalf("P12: turns of %d, %d, %d steps: %v, %v", first, second, third, marks, o.State())
-				}
-				sum := 0
-				for _, m := range marks {
-					sum += []int{1, 10}[m.Thread]
-					answers(t, o, m.Thread, done(sum))
 				}
 			}
 		}
 	}
 }
 
+// takeTurns: each turn is a thread and how many steps it may do.
+func takeTurns(t *testing.T, kind int, ops [][]api.Op, turns [][2]int) {
+	t.Helper()
+	o := fresh(t, api.Config{Kind: kind, Threads: 2, Cap: 1})
+	for thread := range ops {
+		o.Begin(thread, ops[thread][0])
+	}
+	for _, turn := range turns {
+		for range turn[1] {
+			o.Step(turn[0])
+		}
+	}
+	told := make([][]api.Answer, len(ops))
+	for thread := range slices.Backward(ops) {
+		finish(o, thread)
+		a, _ := o.Answer(thread)
+		told[thread] = []api.Answer{a}
+	}
+	replays(t, o, kind, ops, told)
+}
+
 // P12: goroutines may run the threads at the same time: nothing is lost, or done twice.
 func TestAtTheSameTime(t *testing.T) {
 	const threads, each = 20, 100
-	o := fresh(t, counter(threads, 8))
-	told := make([][]api.Answer, threads)
-	var group sync.WaitGroup
-	for thread := range threads {
-		group.Go(func() {
+	for _, kind := range kinds {
+		o := fresh(t, api.Config{Kind: kind, Threads: threads, Cap: 8})
+		ops, told := make([][]api.Op, threads), make([][]api.Answer, threads)
+		var group sync.WaitGroup
+		for thread := range threads {
 			for k := range each {
-				a, _ := o.Do(thread, add(thread-k))
-				told[thread] = append(told[thread], a)
+				ops[thread] = append(ops[thread], api.Op{Code: []int{1, 2, 1, 2, 3}[(thread+k)%5], A: 1000*thread + k})
 			}
-		})
-	}
-	group.Wait()
-	sum, counts := 0, make([]int, threads)
-	for _, m := range o.Order() {
-		sum += m.Thread - m.Seq
-		if m.Seq != counts[m.Thread] || told[m.Thread][m.Seq] != done(sum) {
-			t.Fatalf("P12: %+v answered %+v, want %d", m, told[m.Thread][m.Seq], sum)
+			group.Go(func() {
+				for _, op := range ops[thread] {
+					a, _ := o.Do(thread, op)
+					told[thread] = append(told[thread], a)
+				}
+			})
 		}
-		counts[m.Thread]++
-	}
-	if slices.Min(counts) != each || !slices.Equal(o.State(), []int{sum}) {
-		t.Errorf("P12: %v operations, state %v, want %d of each, %d", counts, o.State(), each, sum)
+		group.Wait()
+		replays(t, o, kind, ops, told)
 	}
 }

@@ -10,8 +10,9 @@ import (
 	"announce/api"
 )
 
-// model is a counter and its threads, told straight from P6 and P7: an operation is one function that stops behind each step.
+// model is an object and its threads, told straight from P6 and P7: an operation is one function that stops behind each step.
 type model struct {
+	kind                 int
 	threads, words, most int
 	toggles              []int
 	announced            []api.Op
@@ -23,7 +24,7 @@ type model struct {
 
 type modelRecord struct {
 	applied, statuses, values []int
-	sum                       int
+	state                     []int // as State tells it
 }
 
 type modelThread struct {
@@ -38,7 +39,7 @@ type modelThread struct {
 
 func newModel(c api.Config) *model {
 	w := (c.Threads + 15) / 16
-	m := &model{threads: c.Threads, words: w, most: c.Cap, toggles: make([]int, w), announced: make([]api.Op, c.Threads), actors: make([]modelThread, c.Threads)}
+	m := &model{kind: c.Kind, threads: c.Threads, words: w, most: c.Cap, toggles: make([]int, w), announced: make([]api.Op, c.Threads), actors: make([]modelThread, c.Threads)}
 	for range 2*c.Threads + 1 {
 		m.pool = append(m.pool, m.emptyRecord())
 	}
@@ -49,7 +50,7 @@ func newModel(c api.Config) *model {
 }
 
 func (m *model) emptyRecord() modelRecord {
-	return modelRecord{applied: make([]int, m.words), statuses: make([]int, m.threads), values: make([]int, m.threads)}
+	return modelRecord{applied: make([]int, m.words), statuses: make([]int, m.threads), values: make([]int, m.threads), state: firstly(m.kind)}
 }
 
 func (m *model) begin(t int, op api.Op) {
@@ -146,7 +147,7 @@ func (m *model) attempt(t int, stop func()) int {
 		stop()
 		op.B = m.announced[i].B
 		var answer api.Answer
-		c.sum, answer = plainly(c.sum, op)
+		c.state, answer = plainly(m.kind, c.state, op)
 		c.statuses[i], c.values[i] = answer.Status, answer.Value
 		stop()
 	}
@@ -172,19 +173,8 @@ func (m *model) transfer(into, from *modelRecord, stop func()) {
 			stop()
 		}
 	}
-	into.sum = from.sum
+	into.state = from.state
 	stop()
-}
-
-// plainly does an operation on a sum.
-func plainly(sum int, op api.Op) (int, api.Answer) {
-	switch op.Code {
-	case api.Add:
-		return sum + op.A, done(sum + op.A)
-	case api.Sum:
-		return sum, done(sum)
-	}
-	return sum, api.Answer{Status: api.BadOp}
 }
 
 // together lets an object and a model go on by the same steps, and holds them against each other behind each.
@@ -214,19 +204,17 @@ func (g *together) step(thread int, op api.Op) {
 	if want == api.Ended {
 		answers(g.t, g.o, thread, g.m.actors[thread].answer)
 	}
-	if sum := g.m.pool[g.m.published].sum; g.o.State()[0] != sum {
-		g.t.Fatalf("P8: State = %v, want %d", g.o.State(), sum)
-	}
+	holds(g.t, g.o, g.m.pool[g.m.published].state...)
 }
 
 // P4 to P9: whichever threads go on, every step, answer, order and state is the model's.
 func TestModel(t *testing.T) {
 	r := rand.New(rand.NewSource(7))
-	for round := range 300 {
-		c := counter([]int{1, 2, 3, 4, 5, 17, 33}[round%7], r.Intn(12))
+	for round := range 600 {
+		c := api.Config{Kind: kinds[round%len(kinds)], Threads: []int{1, 2, 3, 4, 5, 17, 33}[round%7], Cap: r.Intn(12)}
 		g := &together{t: t, o: fresh(t, c), m: newModel(c), busy: make([]bool, c.Threads), taken: make([]int, c.Threads)}
 		few := 1 + r.Intn(c.Threads) // how many threads come at all: fewer of them overtake each other more often
-		for range 300 {
+		for range 200 {
 			thread := r.Intn(few) + r.Intn(2)*(c.Threads-few)
 			for range 1 + r.Intn(1+r.Intn(60)) {
 				g.step(thread, api.Op{Code: r.Intn(4), A: r.Intn(100) - 50, B: r.Intn(9)})

@@ -13,14 +13,19 @@ func TestNewConfig(t *testing.T) {
 	for _, c := range []api.Config{
 		counter(1, 0), counter(api.MaxThreads, 0), counter(1, api.MaxCap), counter(api.MaxThreads, api.MaxCap),
 	} {
-		tells(t, fresh(t, c), 0)
+		for _, c.Kind = range kinds {
+			o := fresh(t, c)
+			holds(t, o, firstly(c.Kind)...)
+			ordered(t, o)
+		}
 	}
 	for _, c := range []api.Config{
 		{},
 		{Kind: 0, Threads: 1}, {Kind: -1, Threads: 1}, {Kind: api.Table + 1, Threads: 1}, {Kind: math.MaxInt, Threads: 1}, {Kind: math.MinInt, Threads: 1},
 		counter(0, 0), counter(-1, 0), counter(api.MaxThreads+1, 0), counter(math.MaxInt, 0), counter(math.MinInt, 0),
 		counter(1, -1), counter(1, api.MaxCap+1), counter(1, math.MaxInt), counter(1, math.MinInt),
-		{Kind: api.Stack, Threads: 0}, {Kind: api.Queue, Threads: 1, Cap: -1}, {Kind: api.Map, Threads: 65},
+		stack(0, 0), stack(65, 0), stack(1, -1), stack(1, 65), queue(0, 0), queue(65, 0), queue(1, -1), queue(1, 65),
+		{Kind: api.Map, Threads: 65},
 		{Kind: api.Table, Threads: 0}, {Kind: api.Table, Threads: 1, Cap: 65}, // no table either: but this is named first
 	} {
 		if o, err := announce.New(c); o != nil || err != api.ErrConfig {
@@ -47,7 +52,9 @@ func TestNewTable(t *testing.T) {
 		if o, err := announce.New(api.Config{Kind: api.Table, Threads: 1, Automaton: a}); o != nil || err != api.ErrTable {
 			t.Errorf("P1, P3: New with the automaton %+v = %v, %d, want ErrTable", a, o, err)
 		}
-		fresh(t, api.Config{Kind: api.Counter, Threads: 1, Automaton: a}) // a counter's is not looked at
+		for _, kind := range kinds {
+			fresh(t, api.Config{Kind: kind, Threads: 1, Automaton: a}) // of other kinds it is not looked at
+		}
 	}
 	for _, a := range []api.Automaton{
 		{States: 1, Codes: 1, Next: []int{0}, Out: []int{math.MinInt}},

@@ -18,7 +18,7 @@ func (Counter) Apply(sum int, op api.Op) (int, api.Answer) {
 	default:
 		return sum, api.Answer{Status: api.BadOp}
 	}
-	return sum, api.Answer{Status: api.Done, Value: sum}
+	return sum, done(sum)
 }
 
 // Tell is the sum as a list (P8).
