@@ -40,9 +40,10 @@ func New(c api.Config) (*Object, api.Errno) {
 		return objectOf(plain.Stack{}, c), api.OK
 	case api.Queue:
 		return objectOf(plain.Queue{}, c), api.OK
+	case api.Map:
+		return objectOf(plain.Map{}, c), api.OK
 	}
-	// The other kinds are not built yet.
-	return nil, api.OK
+	return objectOf(plain.NewTable(c.Automaton), c), api.OK // no other kind is left: checkConfig refuses them
 }
 
 // objectOf gives a plain object the threads that the settings ask for.

@@ -13,7 +13,7 @@ func TestBound(t *testing.T) {
 		{1, 0, 37}, {2, 0, 51}, {2, 3, 57}, {16, 0, 247}, {17, 5, 277}, {64, 0, 937}, {64, 64, 1065},
 	} {
 		for _, kind := range kinds {
-			o := fresh(t, api.Config{Kind: kind, Threads: c.threads, Cap: c.most})
+			o := fresh(t, config(kind, c.threads, c.most))
 			o.Do(0, add(1)) // what the object holds is one part of a record, however much it is
 			if n := o.Bound(); n != c.bound {
 				t.Errorf("P9: kind %d, %d threads, Cap %d: Bound = %d, want %d", kind, c.threads, c.most, n, c.bound)
@@ -26,7 +26,7 @@ func TestBound(t *testing.T) {
 func TestBoundIsReached(t *testing.T) {
 	for _, kind := range kinds {
 		for _, most := range []int{0, 1, 3, 7, 15} {
-			o := fresh(t, api.Config{Kind: kind, Threads: 2, Cap: most})
+			o := fresh(t, config(kind, 2, most))
 			for range 3 {
 				backoff := min(most, sparedWait(t, o))
 				overtakeTwice(t, o, [2]int{backoff, min(2*backoff+1, most)}, true)
@@ -64,7 +64,7 @@ func TestOthersStop(t *testing.T) {
 
 func othersStop(t *testing.T, kind, first, second int) {
 	t.Helper()
-	o := fresh(t, api.Config{Kind: kind, Threads: 3, Cap: 2})
+	o := fresh(t, config(kind, 3, 2))
 	goOn(o, 1, first)
 	goOn(o, 2, second)
 	for k := range 3 {

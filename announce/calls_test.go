@@ -45,15 +45,17 @@ func refused(t *testing.T, o *announce.Object, thread int, begin, step, answer, 
 func TestNoThread(t *testing.T) {
 	for _, kind := range kinds {
 		for _, n := range []int{1, 16, 17, api.MaxThreads} {
-			o := fresh(t, api.Config{Kind: kind, Threads: n})
+			o := fresh(t, config(kind, n, 0))
 			for _, thread := range []int{-1, n, n + 1, math.MaxInt, math.MinInt} {
 				refused(t, o, thread, api.ErrThread, api.ErrThread, api.ErrThread, api.ErrThread)
 			}
 			holds(t, o, firstly(kind)...)
 			ordered(t, o)
-			does(t, o, n-1, add(1), done(1))
+			state, want := plainly(kind, firstly(kind), add(1))
+			does(t, o, n-1, add(1), want)
 			refused(t, o, n, api.ErrThread, api.ErrThread, api.ErrThread, api.ErrThread)
-			tells(t, o, 1, mark(1, n-1, 0))
+			holds(t, o, state...)
+			ordered(t, o, mark(1, n-1, 0))
 		}
 	}
 }
@@ -67,7 +69,7 @@ func TestWrongTime(t *testing.T) {
 
 func wrongTime(t *testing.T, kind int) {
 	t.Helper()
-	o := fresh(t, api.Config{Kind: kind, Threads: 2})
+	o := fresh(t, config(kind, 2, 0))
 	idle := func(answer api.Errno) {
 		t.Helper()
 		if how, err := o.Step(0); how != 0 || err != api.ErrIdle {
@@ -108,15 +110,17 @@ func wrongTime(t *testing.T, kind int) {
 
 // P2: what comes out may be written into, up to its spare room, and nothing is seen of it elsewhere.
 func TestListsAreNew(t *testing.T) {
-	listsAreNew(t, api.Counter, []int{111}, []int{112})
-	listsAreNew(t, api.Stack, []int{100, 10, 1}, []int{1, 100, 10, 1})
-	listsAreNew(t, api.Queue, []int{1, 10, 100}, []int{1, 10, 100, 1})
+	listsAreNew(t, api.Counter, []int{111}, []int{113})
+	listsAreNew(t, api.Stack, []int{100, 10, 1}, []int{2, 100, 10, 1})
+	listsAreNew(t, api.Queue, []int{1, 10, 100}, []int{1, 10, 100, 2})
+	listsAreNew(t, api.Map, []int{1, 0, 10, 0, 100, 0}, []int{1, 0, 2, 0, 10, 0, 100, 0})
+	listsAreNew(t, api.Table, []int{4}, []int{1})
 }
 
 // listsAreNew: first and second are what the object holds behind its first and its second batch.
 func listsAreNew(t *testing.T, kind int, first, second []int) {
 	t.Helper()
-	o := fresh(t, api.Config{Kind: kind, Threads: 3})
+	o := fresh(t, config(kind, 3, 0))
 	for thread, a := range []int{1, 10, 100} {
 		begins(t, o, thread, add(a))
 		moves(t, o, thread, 4)
@@ -136,29 +140,48 @@ func listsAreNew(t *testing.T, kind int, first, second []int) {
 	}
 	holds(t, o, first...)
 	ordered(t, o, order...)
-	o.Do(0, add(1))
+	o.Do(0, add(2))
 	holds(t, o, second...)
 	ordered(t, o, append(order, mark(2, 0, 1))...)
 }
 
-// P2: what is handed in stays as it is.
+// P2: an automaton's lists are not written into, their spare room neither, of whatever kind the object is.
 func TestHandedIn(t *testing.T) {
-	next, out := []int{1, 0, 0, 1}, []int{7, 8, 9, 10}
-	for kind := api.Counter; kind <= api.Table; kind++ {
-		c := api.Config{Kind: kind, Threads: 2, Automaton: api.Automaton{States: 2, Codes: 2, Next: next, Out: out}}
-		if o, err := announce.New(c); err == api.OK && o != nil {
-			o.Do(0, add(1))
+	a := automaton()
+	next, out := append(a.Next, 77), append(a.Out, 77)
+	for _, kind := range kinds {
+		c := config(kind, 2, 0)
+		c.Automaton.Next, c.Automaton.Out = next[:15], out[:15]
+		o := fresh(t, c)
+		for code := range 4 {
+			o.Do(code%2, api.Op{Code: code, A: 1, B: 2})
 		}
 	}
-	if !slices.Equal(next, []int{1, 0, 0, 1}) || !slices.Equal(out, []int{7, 8, 9, 10}) {
-		t.Errorf("P2: the automaton has become %v, %v", next, out)
+	if !slices.Equal(next, append(automaton().Next, 77)) || !slices.Equal(out, append(automaton().Out, 77)) {
+		t.Errorf("P2: the automaton's lists have become %v, %v", next, out)
+	}
+}
+
+// P2: an automaton's lists are not kept: whoever handed them in may write into them, and the object goes on by what they were.
+func TestNotKept(t *testing.T) {
+	c := config(api.Table, 2, 0)
+	o := fresh(t, c)
+	state, want := firstly(api.Table), api.Answer{}
+	for k := range 60 {
+		for i := range c.Automaton.Next {
+			c.Automaton.Next[i], c.Automaton.Out[i] = k%5, -1-k
+		}
+		op := api.Op{Code: k * 7 % 3}
+		state, want = plainly(api.Table, state, op)
+		does(t, o, k%2, op, want)
+		holds(t, o, state...)
 	}
 }
 
 // P2: objects know nothing of one another.
 func TestObjectsApart(t *testing.T) {
 	for _, kind := range kinds {
-		objectsApart(t, api.Config{Kind: kind, Threads: 2, Cap: 3})
+		objectsApart(t, config(kind, 2, 3))
 	}
 }
 
@@ -173,8 +196,10 @@ func objectsApart(t *testing.T, c api.Config) {
 	does(t, other, 0, add(10), want)
 	holds(t, one, firstly(c.Kind)...)
 	ordered(t, one)
-	ends(t, one, 0, 22, done(1))
-	tells(t, one, 1, mark(1, 0, 0))
+	alone, want := plainly(c.Kind, firstly(c.Kind), add(1))
+	ends(t, one, 0, 22, want)
+	holds(t, one, alone...)
+	ordered(t, one, mark(1, 0, 0))
 	holds(t, other, both...)
 	ordered(t, other, mark(1, 1, 0), mark(2, 0, 0))
 }

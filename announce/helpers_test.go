@@ -88,25 +88,6 @@ func ordered(t *testing.T, o *announce.Object, marks ...api.Mark) {
 	}
 }
 
-// replays: each operation, in the order that is told, answers what the plain object answers; and all of them lead to the state.
-func replays(t *testing.T, o *announce.Object, kind int, ops [][]api.Op, told [][]api.Answer) {
-	t.Helper()
-	state, want, counts := firstly(kind), api.Answer{}, make([]int, len(ops))
-	for _, m := range o.Order() {
-		state, want = plainly(kind, state, ops[m.Thread][m.Seq])
-		if m.Seq != counts[m.Thread] || told[m.Thread][m.Seq] != want {
-			t.Fatalf("P12: kind %d: %+v answered %+v, want %+v", kind, m, told[m.Thread][m.Seq], want)
-		}
-		counts[m.Thread]++
-	}
-	for thread, n := range counts {
-		if n != len(ops[thread]) {
-			t.Fatalf("P12: kind %d: %d operations of thread %d, want %d", kind, n, thread, len(ops[thread]))
-		}
-	}
-	holds(t, o, state...)
-}
-
 func mark(batch, thread, seq int) api.Mark {
 	return api.Mark{Batch: batch, Thread: thread, Seq: seq}
 }

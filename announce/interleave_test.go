@@ -3,6 +3,7 @@ package announce_test
 import (
 	"slices"
 	"sync"
+	"sync/atomic"
 	"testing"
 
 	"announce/announce"
@@ -19,7 +20,7 @@ func finish(o *announce.Object, thread int) {
 // P12: two operations, with three changes of turn, wherever they fall: both are done once, in the order that is told.
 func TestTurns(t *testing.T) {
 	for _, kind := range kinds {
-		for _, ops := range [][][]api.Op{{{add(1)}, {add(10)}}, {{add(1)}, {{Code: 2}}}, {{{Code: 2}}, {add(10)}}} {
+		for _, ops := range pairs(kind) {
 			for first := range 28 {
 				for second := range 40 {
 					for third := range 40 {
@@ -31,46 +32,75 @@ func TestTurns(t *testing.T) {
 	}
 }
 
+// pairs are operations whose order is to be seen in their answers.
+func pairs(kind int) [][2]api.Op {
+	switch kind {
+	case api.Map:
+		return [][2]api.Op{{store(1, 5), store(1, 6)}, {store(1, 5), remove(1)}, {load(1), store(1, 6)}}
+	case api.Table:
+		return [][2]api.Op{{{Code: 0}, {Code: 1}}, {{Code: 2}, {Code: 1}}, {{Code: 3}, {Code: 0}}}
+	}
+	return [][2]api.Op{{add(1), add(10)}, {add(1), {Code: 2}}, {{Code: 2}, add(10)}}
+}
+
 // takeTurns: each turn is a thread and how many steps it may do.
-func takeTurns(t *testing.T, kind int, ops [][]api.Op, turns [][2]int) {
+func takeTurns(t *testing.T, kind int, ops [2]api.Op, turns [][2]int) {
 	t.Helper()
-	o := fresh(t, api.Config{Kind: kind, Threads: 2, Cap: 1})
-	for thread := range ops {
-		o.Begin(thread, ops[thread][0])
+	o := fresh(t, config(kind, 2, 1))
+	deeds := make([][]deed, 2)
+	for thread, op := range ops {
+		o.Begin(thread, op)
+		deeds[thread] = []deed{{op: op, ended: 1}}
 	}
 	for _, turn := range turns {
 		for range turn[1] {
 			o.Step(turn[0])
 		}
 	}
-	told := make([][]api.Answer, len(ops))
-	for thread := range slices.Backward(ops) {
+	for thread := range slices.Backward(deeds) {
 		finish(o, thread)
-		a, _ := o.Answer(thread)
-		told[thread] = []api.Answer{a}
+		deeds[thread][0].answer, _ = o.Answer(thread)
 	}
-	replays(t, o, kind, ops, told)
+	oneAtATime(t, o, kind, deeds)
 }
 
 // P12: goroutines may run the threads at the same time: nothing is lost, or done twice.
 func TestAtTheSameTime(t *testing.T) {
-	const threads, each = 20, 100
 	for _, kind := range kinds {
-		o := fresh(t, api.Config{Kind: kind, Threads: threads, Cap: 8})
-		ops, told := make([][]api.Op, threads), make([][]api.Answer, threads)
-		var group sync.WaitGroup
-		for thread := range threads {
-			for k := range each {
-				ops[thread] = append(ops[thread], api.Op{Code: []int{1, 2, 1, 2, 3}[(thread+k)%5], A: 1000*thread + k})
-			}
-			group.Go(func() {
-				for _, op := range ops[thread] {
-					a, _ := o.Do(thread, op)
-					told[thread] = append(told[thread], a)
-				}
-			})
+		for _, threads := range []int{1, 16, 17, api.MaxThreads} {
+			atTheSameTime(t, kind, threads, 1600/threads)
 		}
-		group.Wait()
-		replays(t, o, kind, ops, told)
 	}
+}
+
+func atTheSameTime(t *testing.T, kind, threads, each int) {
+	t.Helper()
+	o := fresh(t, config(kind, threads, 8))
+	deeds := make([][]deed, threads)
+	var clock atomic.Int64
+	var group sync.WaitGroup
+	for thread := range threads {
+		group.Go(func() {
+			for k := range each {
+				d := deed{op: mixed(kind, thread, k), begun: int(clock.Add(1))}
+				d.answer, _ = o.Do(thread, d.op)
+				d.ended = int(clock.Add(1))
+				deeds[thread] = append(deeds[thread], d)
+			}
+		})
+	}
+	group.Wait()
+	oneAtATime(t, o, kind, deeds)
+}
+
+// mixed draws all codes and one that is none; of a map all threads come to the same few keys.
+func mixed(kind, thread, k int) api.Op {
+	number := 1000*thread + k
+	switch kind {
+	case api.Map:
+		return api.Op{Code: []int{1, 2, 1, 3, 4}[(thread+k)%5], A: (thread + 3*k) % 7, B: number}
+	case api.Table:
+		return api.Op{Code: (thread + k) % 4, A: number}
+	}
+	return api.Op{Code: []int{1, 2, 1, 2, 3}[(thread+k)%5], A: number}
 }

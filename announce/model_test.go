@@ -210,14 +210,14 @@ func (g *together) step(thread int, op api.Op) {
 // P4 to P9: whichever threads go on, every step, answer, order and state is the model's.
 func TestModel(t *testing.T) {
 	r := rand.New(rand.NewSource(7))
-	for round := range 600 {
-		c := api.Config{Kind: kinds[round%len(kinds)], Threads: []int{1, 2, 3, 4, 5, 17, 33}[round%7], Cap: r.Intn(12)}
+	for round := range 640 {
+		c := config(kinds[round%len(kinds)], []int{1, 2, 3, 4, 5, 16, 17, 64}[round%8], r.Intn(12))
 		g := &together{t: t, o: fresh(t, c), m: newModel(c), busy: make([]bool, c.Threads), taken: make([]int, c.Threads)}
 		few := 1 + r.Intn(c.Threads) // how many threads come at all: fewer of them overtake each other more often
 		for range 200 {
 			thread := r.Intn(few) + r.Intn(2)*(c.Threads-few)
 			for range 1 + r.Intn(1+r.Intn(60)) {
-				g.step(thread, api.Op{Code: r.Intn(4), A: r.Intn(100) - 50, B: r.Intn(9)})
+				g.step(thread, api.Op{Code: r.Intn(5), A: r.Intn(9) - 4, B: r.Intn(100) - 50})
 			}
 			if l := g.o.Order(); !slices.Equal(l, g.m.order) {
 				t.Fatalf("P8: %+v: Order = %v, want %v", c, l, g.m.order)

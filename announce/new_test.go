@@ -13,9 +13,9 @@ func TestNewConfig(t *testing.T) {
 	for _, c := range []api.Config{
 		counter(1, 0), counter(api.MaxThreads, 0), counter(1, api.MaxCap), counter(api.MaxThreads, api.MaxCap),
 	} {
-		for _, c.Kind = range kinds {
-			o := fresh(t, c)
-			holds(t, o, firstly(c.Kind)...)
+		for _, kind := range kinds {
+			o := fresh(t, config(kind, c.Threads, c.Cap))
+			holds(t, o, firstly(kind)...)
 			ordered(t, o)
 		}
 	}
@@ -25,8 +25,9 @@ func TestNewConfig(t *testing.T) {
 		counter(0, 0), counter(-1, 0), counter(api.MaxThreads+1, 0), counter(math.MaxInt, 0), counter(math.MinInt, 0),
 		counter(1, -1), counter(1, api.MaxCap+1), counter(1, math.MaxInt), counter(1, math.MinInt),
 		stack(0, 0), stack(65, 0), stack(1, -1), stack(1, 65), queue(0, 0), queue(65, 0), queue(1, -1), queue(1, 65),
-		{Kind: api.Map, Threads: 65},
-		{Kind: api.Table, Threads: 0}, {Kind: api.Table, Threads: 1, Cap: 65}, // no table either: but this is named first
+		config(api.Map, 0, 0), config(api.Map, 65, 0), config(api.Map, 1, -1), config(api.Map, 1, 65),
+		config(api.Table, 0, 0), config(api.Table, 65, 0), config(api.Table, 1, -1), config(api.Table, 1, 65),
+		{Kind: api.Table, Threads: 0}, {Kind: api.Table, Threads: 65}, {Kind: api.Table, Threads: 1, Cap: -1}, {Kind: api.Table, Threads: 1, Cap: 65}, // no table either: but this is named first
 	} {
 		if o, err := announce.New(c); o != nil || err != api.ErrConfig {
 			t.Errorf("P1, P3: New(%+v) = %v, %d, want ErrConfig", c, o, err)
@@ -48,21 +49,27 @@ func TestNewTable(t *testing.T) {
 		{States: 2, Codes: 1, Next: []int{0, 0}, Out: []int{0}}, {States: 2, Codes: 1, Next: []int{0, 0}, Out: []int{0, 0, 0}},
 		{States: 2, Codes: 1, Next: nil, Out: []int{0, 0}}, {States: 2, Codes: 1, Next: []int{0, 0}},
 		{States: 2, Codes: 1, Next: []int{0, 2}, Out: []int{0, 0}}, {States: 2, Codes: 1, Next: []int{-1, 0}, Out: []int{0, 0}},
+		{States: 2, Codes: 1, Next: []int{0, math.MaxInt}, Out: []int{0, 0}}, {States: 2, Codes: 1, Next: []int{0, math.MinInt}, Out: []int{0, 0}},
+		{States: 1, Codes: 2, Next: []int{0, 1}, Out: []int{0, 0}},
 	} {
 		if o, err := announce.New(api.Config{Kind: api.Table, Threads: 1, Automaton: a}); o != nil || err != api.ErrTable {
 			t.Errorf("P1, P3: New with the automaton %+v = %v, %d, want ErrTable", a, o, err)
 		}
-		for _, kind := range kinds {
+		for _, kind := range []int{api.Counter, api.Stack, api.Queue, api.Map} {
 			fresh(t, api.Config{Kind: kind, Threads: 1, Automaton: a}) // of other kinds it is not looked at
 		}
 	}
 	for _, a := range []api.Automaton{
 		{States: 1, Codes: 1, Next: []int{0}, Out: []int{math.MinInt}},
 		{States: 2, Codes: 2, Next: []int{1, 0, 0, 1}, Out: []int{7, 8, 9, 10}},
+		{States: api.MaxStates, Codes: 1, Next: make([]int, api.MaxStates), Out: make([]int, api.MaxStates)},
+		{States: 1, Codes: api.MaxCodes, Next: make([]int, api.MaxCodes), Out: make([]int, api.MaxCodes)},
 		{States: api.MaxStates, Codes: api.MaxCodes, Next: make([]int, api.MaxStates*api.MaxCodes), Out: make([]int, api.MaxStates*api.MaxCodes)},
 	} {
-		if _, err := announce.New(api.Config{Kind: api.Table, Threads: 1, Automaton: a}); err != api.OK {
-			t.Errorf("P3: New with the automaton %+v: %d", a, err)
+		for _, threads := range []int{1, 16, 17, api.MaxThreads} {
+			o := fresh(t, api.Config{Kind: api.Table, Threads: threads, Automaton: a})
+			holds(t, o, 0)
+			ordered(t, o)
 		}
 	}
 }

@@ -45,18 +45,24 @@ func TestExample3(t *testing.T) {
 	tells(t, o, 2, mark(1, 0, 0), mark(1, 1, 0))
 }
 
-// P7: an attempt takes as many steps as there are words of toggles, parts and pending threads.
+// P7: an attempt takes as many steps as there are words of toggles, parts and pending threads; with nobody to overtake it the first one succeeds.
 func TestAttemptSteps(t *testing.T) {
 	for _, c := range []struct{ threads, words, parts int }{{1, 1, 4}, {2, 1, 6}, {16, 1, 34}, {17, 2, 37}, {64, 4, 133}} {
 		for pending := 1; pending <= c.threads; pending++ {
-			o := fresh(t, counter(c.threads, 5))
-			for thread := range pending - 1 {
-				begins(t, o, thread, add(1))
-				moves(t, o, thread, 4)
+			for _, kind := range kinds {
+				o := fresh(t, config(kind, c.threads, 5))
+				state, want := firstly(kind), api.Answer{}
+				for thread := range pending - 1 {
+					begins(t, o, thread, add(thread))
+					moves(t, o, thread, 4)
+					state, _ = plainly(kind, state, add(thread))
+				}
+				begins(t, o, c.threads-1, add(1))
+				state, want = plainly(kind, state, add(1))
+				steps := 1 + c.parts + c.words + 1 + 3*pending + c.parts + 1
+				ends(t, o, c.threads-1, 4+steps+3, want)
+				holds(t, o, state...)
 			}
-			begins(t, o, c.threads-1, add(1))
-			steps := 1 + c.parts + c.words + 1 + 3*pending + c.parts + 1
-			ends(t, o, c.threads-1, 4+steps+3, done(pending))
 		}
 	}
 }
@@ -94,6 +100,24 @@ func TestAnnouncedOnly(t *testing.T) {
 		ends(t, o, 0, 4+attempt(1)+3, done(1))
 		tells(t, o, 1, mark(1, 0, 0))
 		ends(t, o, 1, 4-steps+attempt(1)+3, done(11))
+	}
+}
+
+// P7: a thread that is not pending itself is spared, and leaves those that are to themselves.
+func TestSparedWhileOthersPend(t *testing.T) {
+	const parts = 1 + 2*3 + 1
+	for _, kind := range kinds {
+		o := fresh(t, config(kind, 3, 0))
+		begins(t, o, 0, add(1))
+		moves(t, o, 0, 4)
+		state, want := plainly(kind, firstly(kind), add(1))
+		o.Do(1, add(10))
+		state, _ = plainly(kind, state, add(10))
+		begins(t, o, 2, add(100))
+		moves(t, o, 2, 4)
+		ends(t, o, 0, 1+parts+1+1+3, want)
+		holds(t, o, state...)
+		ordered(t, o, mark(1, 0, 0), mark(1, 1, 0))
 	}
 }
 

@@ -15,6 +15,18 @@ func TestStatesStay(t *testing.T) {
 	statesStay(t, plain.Counter{})
 	statesStay(t, plain.Stack{})
 	statesStay(t, plain.Queue{})
+	statesStay(t, plain.Map{})
+	statesStay(t, table())
+}
+
+// table has two states and two codes.
+func table() plain.Table {
+	return plain.NewTable(api.Automaton{States: 2, Codes: 2, Next: []int{1, 0, 0, 1}, Out: []int{7, 8, 9, 10}})
+}
+
+// drawn is any kind's operation: few keys, for a map; many values.
+func drawn(r *rand.Rand) api.Op {
+	return api.Op{Code: r.Intn(5), A: r.Intn(12), B: r.Intn(100)}
 }
 
 func statesStay[S any](t *testing.T, object Plain[S]) {
@@ -27,7 +39,7 @@ func statesStay[S any](t *testing.T, object Plain[S]) {
 		told := [][]int{object.Tell(states[0])}
 		for range 3000 {
 			thread := r.Intn(threads)
-			e.Begin(thread, api.Op{Code: r.Intn(4), A: r.Intn(100)})
+			e.Begin(thread, drawn(r))
 			e.Step(thread)
 			if p := e.shared.published.read(); p.stamp() == len(states) {
 				states = append(states, e.shared.pool[p.record()].state.Load().now.state)
@@ -86,6 +98,57 @@ func listsLookedAt[S any](t *testing.T, object Plain[S], oldestFirst func([]int)
 	if n := len(e.State()); n != threads*(each-each/3) {
 		t.Errorf("P8: %T: %d values in the end", object, n)
 	}
+}
+
+// P8: the same of a map, in which each thread stores rising values at its own key, and at one that it removes again.
+func TestMapLookedAt(t *testing.T) {
+	const threads, each = 4, 200
+	e := New(plain.Map{}, threads, 4)
+	var work, looks sync.WaitGroup
+	end := make(chan struct{})
+	looks.Go(func() {
+		var last [threads]int
+		for {
+			select {
+			case <-end:
+				return
+			default:
+			}
+			if l := e.State(); !risingByKeys(l, last[:]) {
+				t.Errorf("P8: a map tells %v, and %v ahead of it", l, last)
+				return
+			}
+		}
+	})
+	for i := range threads {
+		work.Go(func() {
+			for k := range each {
+				e.Do(i, api.Op{Code: api.Store, A: i, B: k + 1})
+				e.Do(i, api.Op{Code: api.Store, A: threads + i, B: k + 1})
+				e.Do(i, api.Op{Code: api.Remove, A: threads + i})
+			}
+		})
+	}
+	work.Wait()
+	close(end)
+	looks.Wait()
+	if l := e.State(); !slices.Equal(l, []int{0, each, 1, each, 2, each, 3, each}) {
+		t.Errorf("P8: in the end %v", l)
+	}
+}
+
+// risingByKeys: the keys rise; the values of a thread's own key never go back, and what is at the other key was stored behind it. last is brought up to now.
+func risingByKeys(list, last []int) bool {
+	threads, before := len(last), -1
+	for pair := range slices.Chunk(list, 2) {
+		key, value := pair[0], pair[1]
+		if key <= before || value < last[key%threads] || key >= threads && value != last[key%threads] {
+			return false
+		}
+		before = key
+		last[key%threads] = value
+	}
+	return true
 }
 
 // risingByThreads: the values of each thread rise.

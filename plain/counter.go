@@ -16,7 +16,7 @@ func (Counter) Apply(sum int, op api.Op) (int, api.Answer) {
 		sum += op.A
 	case api.Sum:
 	default:
-		return sum, api.Answer{Status: api.BadOp}
+		return sum, badOp()
 	}
 	return sum, done(sum)
 }

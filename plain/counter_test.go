@@ -22,11 +22,11 @@ func TestCounter(t *testing.T) {
 		{math.MaxInt, api.Op{Code: api.Add, A: 1}, math.MinInt, api.Answer{Status: api.Done, Value: math.MinInt}},
 		{math.MinInt, api.Op{Code: api.Add, A: -1}, math.MaxInt, api.Answer{Status: api.Done, Value: math.MaxInt}},
 		{8, api.Op{Code: api.Sum, A: 3, B: 4}, 8, api.Answer{Status: api.Done, Value: 8}},
-		{8, api.Op{Code: 0, A: 3, B: 4}, 8, api.Answer{Status: api.BadOp}},
-		{8, api.Op{Code: 3, A: 3, B: 4}, 8, api.Answer{Status: api.BadOp}},
-		{8, api.Op{Code: -1, A: 3, B: 4}, 8, api.Answer{Status: api.BadOp}},
-		{8, api.Op{Code: math.MaxInt, A: 3}, 8, api.Answer{Status: api.BadOp}},
-		{8, api.Op{Code: math.MinInt, A: 3}, 8, api.Answer{Status: api.BadOp}},
+		{8, api.Op{Code: 0, A: 3, B: 4}, 8, badOp()},
+		{8, api.Op{Code: 3, A: 3, B: 4}, 8, badOp()},
+		{8, api.Op{Code: -1, A: 3, B: 4}, 8, badOp()},
+		{8, api.Op{Code: math.MaxInt, A: 3}, 8, badOp()},
+		{8, api.Op{Code: math.MinInt, A: 3}, 8, badOp()},
 	} {
 		if next, answer := (Counter{}).Apply(c.sum, c.op); next != c.next || answer != c.answer {
 			t.Errorf("P4: %+v at %d: %d, %+v, want %d, %+v", c.op, c.sum, next, answer, c.next, c.answer)

@@ -40,16 +40,16 @@ func does[S any](t *testing.T, o object[S], deeds ...deed) {
 }
 
 // branches lets operations be applied to any state that there ever was: none of them becomes another by it, and each answer hangs on its own state alone.
-// lay: how a list becomes longer by a value.
-func branches[S any](t *testing.T, o object[S], lay func(values []int, a int) []int) {
+// plainly: an operation done on what an object tells, straight from P4.
+func branches[S any](t *testing.T, o object[S], plainly func(told []int, op api.Op) ([]int, api.Answer)) {
 	t.Helper()
 	r := rand.New(rand.NewSource(3))
 	states, told := []S{o.First()}, [][]int{nil}
-	for range 3000 {
+	for range 5000 {
 		from := len(states) - 1 - r.Intn(min(len(states), 1+r.Intn(40)))
-		op := api.Op{Code: []int{0, 1, 1, 1, 2, 2, 2, 3}[r.Intn(8)], A: r.Intn(1000), B: r.Intn(1000)}
+		op := api.Op{Code: []int{0, 1, 1, 1, 1, 2, 2, 2, 3, 3, 4}[r.Intn(11)], A: r.Intn(40) - 20, B: r.Intn(1000)}
 		next, answer := o.Apply(states[from], op)
-		should, want := applyTo(told[from], op, lay)
+		should, want := plainly(told[from], op)
 		if answer != want {
 			t.Fatalf("P4: %+v at %v: %+v, want %+v", op, told[from], answer, want)
 		}
@@ -62,17 +62,19 @@ func branches[S any](t *testing.T, o object[S], lay func(values []int, a int) []
 	}
 }
 
-// applyTo does an operation on a list, told straight from P4: the first value is what is taken, of a stack and of a queue.
-func applyTo(values []int, op api.Op, lay func(values []int, a int) []int) ([]int, api.Answer) {
-	switch {
-	case op.Code == 1:
-		return lay(values, op.A), done(len(values) + 1)
-	case op.Code != 2:
-		return values, api.Answer{Status: api.BadOp}
-	case len(values) == 0:
-		return values, api.Answer{Status: api.Empty}
+// listDoes is a stack or a queue: the first value is what is taken, of both; they differ in what they are with one value more.
+func listDoes(lay func(values []int, a int) []int) func(values []int, op api.Op) ([]int, api.Answer) {
+	return func(values []int, op api.Op) ([]int, api.Answer) {
+		switch {
+		case op.Code == 1:
+			return lay(values, op.A), done(len(values) + 1)
+		case op.Code != 2:
+			return values, badOp()
+		case len(values) == 0:
+			return values, empty()
+		}
+		return values[1:], done(values[0])
 	}
-	return values[1:], done(values[0])
 }
 
 // newLists: what is told is new memory each time, its spare room too.
@@ -88,5 +90,19 @@ func newLists[S any](t *testing.T, o object[S], state S) {
 	}
 }
 
-// badCodes: none of them is a code of an object that has two.
+// badCodes: none of them is a code of a stack or a queue.
 func badCodes() []int { return []int{0, -1, 3, 9, math.MaxInt, math.MinInt} }
+
+// P4: the answers that carry no value have none.
+func TestAnswers(t *testing.T) {
+	for _, c := range []struct{ got, want api.Answer }{
+		{done(7), api.Answer{Status: api.Done, Value: 7}},
+		{empty(), api.Answer{Status: api.Empty}},
+		{none(), api.Answer{Status: api.None}},
+		{badOp(), api.Answer{Status: api.BadOp}},
+	} {
+		if c.got != c.want {
+			t.Errorf("P4: %+v, want %+v", c.got, c.want)
+		}
+	}
+}

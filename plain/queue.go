@@ -27,7 +27,7 @@ func (Queue) Apply(all row, op api.Op) (row, api.Answer) {
 	case api.Take:
 		return all.take()
 	}
-	return all, api.Answer{Status: api.BadOp}
+	return all, badOp()
 }
 
 // take turns the back round only when the front has run out: so a value is turned once, however long the row is.
@@ -36,7 +36,7 @@ func (r row) take() (row, api.Answer) {
 		r = row{front: r.back.reversed()}
 	}
 	if r.front == nil {
-		return r, api.Answer{Status: api.Empty}
+		return r, empty()
 	}
 	return row{front: r.front.tail, back: r.back}, done(r.front.head)
 }

@@ -13,9 +13,8 @@ func take() api.Op { return api.Op{Code: api.Take, A: 5, B: 9} }
 
 // P4, P8: what a queue answers and tells.
 func TestQueue(t *testing.T) {
-	empty := api.Answer{Status: api.Empty}
 	does(t, Queue{}, []deed{
-		{take(), empty, nil},
+		{take(), empty(), nil},
 		{put(7), done(1), []int{7}},
 		{put(-8), done(2), []int{7, -8}},
 		{put(0), done(3), []int{7, -8, 0}},
@@ -28,7 +27,7 @@ func TestQueue(t *testing.T) {
 		{put(3), done(2), []int{2, 3}},
 		{take(), done(2), []int{3}},
 		{take(), done(3), nil},
-		{take(), empty, nil},
+		{take(), empty(), nil},
 		{put(4), done(1), []int{4}},
 	}...)
 }
@@ -49,7 +48,7 @@ func rowOf(front, back []int) row {
 func TestQueueBadCodes(t *testing.T) {
 	for _, code := range badCodes() {
 		for _, state := range []row{{}, rowOf([]int{1, 2}, nil), rowOf(nil, []int{1}), rowOf([]int{1}, []int{2, 3})} {
-			if next, answer := (Queue{}).Apply(state, api.Op{Code: code, A: 3}); next != state || answer != (api.Answer{Status: api.BadOp}) {
+			if next, answer := (Queue{}).Apply(state, api.Op{Code: code, A: 3}); next != state || answer != badOp() {
 				t.Errorf("P4: the code %d: %+v, %v", code, answer, Queue{}.Tell(next))
 			}
 		}
@@ -58,7 +57,7 @@ func TestQueueBadCodes(t *testing.T) {
 
 // Ways: a queue's states are never changed, and share their tails.
 func TestQueueStates(t *testing.T) {
-	branches(t, Queue{}, func(values []int, a int) []int { return slices.Concat(values, []int{a}) })
+	branches(t, Queue{}, listDoes(func(values []int, a int) []int { return slices.Concat(values, []int{a}) }))
 	state := rowOf([]int{1, 2}, []int{3, 4})
 	newLists(t, Queue{}, state)
 	if next, _ := (Queue{}).Apply(state, put(5)); next.front != state.front || next.back.tail != state.back {

@@ -16,11 +16,11 @@ func (Stack) Apply(top *list, op api.Op) (*list, api.Answer) {
 		return top, done(top.size())
 	case api.Pop:
 		if top == nil {
-			return nil, api.Answer{Status: api.Empty}
+			return nil, empty()
 		}
 		return top.tail, done(top.head)
 	}
-	return top, api.Answer{Status: api.BadOp}
+	return top, badOp()
 }
 
 // Tell is all values, the top first (P8).

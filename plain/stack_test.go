@@ -11,9 +11,8 @@ import (
 func TestStack(t *testing.T) {
 	push := func(a int) api.Op { return api.Op{Code: api.Push, A: a, B: 9} }
 	pop := api.Op{Code: api.Pop, A: 5, B: 9}
-	empty := api.Answer{Status: api.Empty}
 	does(t, Stack{}, []deed{
-		{pop, empty, nil},
+		{pop, empty(), nil},
 		{push(7), done(1), []int{7}},
 		{push(-8), done(2), []int{-8, 7}},
 		{pop, done(-8), []int{7}},
@@ -22,7 +21,7 @@ func TestStack(t *testing.T) {
 		{pop, done(0), []int{7, 7}},
 		{pop, done(7), []int{7}},
 		{pop, done(7), nil},
-		{pop, empty, nil},
+		{pop, empty(), nil},
 		{push(1), done(1), []int{1}},
 	}...)
 }
@@ -32,7 +31,7 @@ func TestStackBadCodes(t *testing.T) {
 	some := Stack{}.First().with(1).with(2)
 	for _, code := range badCodes() {
 		for _, state := range []*list{nil, some} {
-			if next, answer := (Stack{}).Apply(state, api.Op{Code: code, A: 3}); next != state || answer != (api.Answer{Status: api.BadOp}) {
+			if next, answer := (Stack{}).Apply(state, api.Op{Code: code, A: 3}); next != state || answer != badOp() {
 				t.Errorf("P4: the code %d: %+v, %v", code, answer, next.values())
 			}
 		}
@@ -41,7 +40,7 @@ func TestStackBadCodes(t *testing.T) {
 
 // Ways: a stack's states are never changed, and share their tails.
 func TestStackStates(t *testing.T) {
-	branches(t, Stack{}, func(values []int, a int) []int { return slices.Concat([]int{a}, values) })
+	branches(t, Stack{}, listDoes(func(values []int, a int) []int { return slices.Concat([]int{a}, values) }))
 	state := Stack{}.First().with(1).with(2)
 	newLists(t, Stack{}, state)
 	if next, _ := (Stack{}).Apply(state, api.Op{Code: api.Push, A: 3}); next.tail != state {
