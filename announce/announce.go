@@ -50,11 +50,3 @@ func New(c api.Config) (*Object, api.Errno) {
 func objectOf[S any](object engine.Plain[S], c api.Config) *Object {
 	return &Object{engine.New(object, c.Threads, c.Cap)}
 }
-
-// Play lets threads run as goroutines, one step at a time (P10).
-func Play(c api.Config, programs [][]api.Op, picks []int) (api.Tale, api.Errno) {
-	return api.Tale{}, api.OK
-}
-
-// Race lets threads run as goroutines, as they like, on one counter (P11).
-func Race(programs [][]int) (int, api.Errno) { return 0, api.OK }
